@@ -1,0 +1,110 @@
+"""Names, numbers, moves and texts as plain values: kinds are a tuple of names, rows a tuple of tuples of integers."""
+
+from swapkinds.limits import MOST_COUNT
+
+LETTERS = "abcdefghijklmnopqrstuvwxyz"
+DIGITS = "0123456789"
+LONGEST_NAME = 8
+
+
+def is_integer(value):
+    """Whether a value is an integer; True and False are none."""
+    return isinstance(value, int) and not isinstance(value, bool)
+
+
+def is_number(value, least):
+    """Whether a value is an integer that is not below the least one."""
+    return is_integer(value) and value >= least
+
+
+def is_name(value):
+    """Whether a value is a name."""
+    if not isinstance(value, str) or not 1 <= len(value) <= LONGEST_NAME:
+        return False
+    return value[0] in LETTERS and all([sign in LETTERS + DIGITS for sign in value])
+
+
+def is_kind(kinds, value):
+    """Whether a value is one of the kinds."""
+    # other values than strings may have an == of their own, so they are not compared
+    return isinstance(value, str) and value in kinds
+
+
+def is_row(value, count):
+    """Whether a value is a row of so many numbers of a table."""
+    if not isinstance(value, tuple) or len(value) != count:
+        return False
+    return all([is_number(number, 0) and number <= MOST_COUNT for number in value])
+
+
+def is_move(kinds, value):
+    """Whether a value is a swap or a turn of these kinds."""
+    if not isinstance(value, tuple) or len(value) not in (4, 6):
+        return False
+    if not all([is_kind(kinds, kind) for kind in value]):
+        return False
+    places = value[::2]
+    return len(set(places)) == len(places) and len(set(value[1::2])) > 1
+
+
+def is_part_of_plan(kinds, value):
+    """Whether a value is a pair of a move of these kinds and how often it is made."""
+    if not isinstance(value, tuple) or len(value) != 2:
+        return False
+    return is_move(kinds, value[0]) and is_number(value[1], 1)
+
+
+def is_change(lines, value):
+    """Whether a value is a pair of one of these lines and another line."""
+    if not isinstance(value, tuple) or len(value) != 2:
+        return False
+    old, new = value
+    return isinstance(old, str) and old in lines and isinstance(new, str) and "\n" not in new
+
+
+def exchanges(kinds, move):
+    """For each place of a move: the place, the thing that goes and the thing that comes, by their indexes."""
+    at = [kinds.index(kind) for kind in move]
+    return [(at[k], at[k + 1], at[k - 1]) for k in range(0, len(at), 2)]
+
+
+def rows_behind(kinds, rows, move, times):
+    """The rows behind a move that is made so often, with numbers of any size; None if it cannot be made so."""
+    table = [list(row) for row in rows]
+    for place, goes, comes in exchanges(kinds, move):
+        # where a thing of the same kind comes back, one is enough for any number of times
+        needed = 1 if goes == comes else times
+        if rows[place][goes] < needed:
+            return None
+        table[place][goes] -= times
+        table[place][comes] += times
+    return tuple([tuple(row) for row in table])
+
+
+def greatest_number(rows):
+    """The greatest number of a table."""
+    return max([max(row) for row in rows])
+
+
+def text_lines(kinds, rows):
+    """The lines of the text of a yard."""
+    named = [" ".join([kind] + [str(number) for number in row]) for kind, row in zip(kinds, rows)]
+    return [" ".join(["kinds"] + list(kinds))] + named
+
+
+def number_of(word):
+    """The number that a word of digits tells; -1, which no table has, if it tells none of a table."""
+    # the length is asked first, as Python does not read digits without end
+    if 1 <= len(word) <= len(str(MOST_COUNT)) and all([sign in DIGITS for sign in word]):
+        return int(word)
+    return -1
+
+
+def kinds_of_text(text):
+    """The kinds that stand in the first line of a text, whatever they are."""
+    return tuple(text.split("\n")[0].split(" ")[1:])
+
+
+def rows_of_text(text):
+    """The rows that stand in the other lines of a text, whatever their first words are."""
+    return tuple([tuple([number_of(word) for word in line.split(" ")[1:]]) for line in text.split("\n")[1:]])

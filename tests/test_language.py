@@ -1,0 +1,135 @@
+"""The files of the package keep the rules of the language, as far as a reading of their trees can tell."""
+
+import ast
+import inspect
+import os
+import unittest
+
+import swapkinds
+from swapkinds import errors, rings, yards
+
+FOLDER = os.path.dirname(swapkinds.__file__)
+BUILTINS = set("""len range enumerate zip min max sum abs sorted reversed int str bool bytes list tuple dict set
+    isinstance ord repr any all divmod classmethod staticmethod property super NotImplemented Exception ValueError
+    TypeError KeyError IndexError LookupError ZeroDivisionError ArithmeticError OverflowError RuntimeError""".split())
+METHODS = set("""append clear copy count endswith extend find get index insert isalnum isalpha isdigit islower isspace
+    isupper items join keys ljust lower lstrip partition pop remove replace reverse rfind rjust rpartition rsplit rstrip
+    setdefault split splitlines startswith strip update upper values zfill bit_length add discard""".split())
+STATEMENTS = (ast.FunctionDef, ast.ClassDef, ast.Import, ast.ImportFrom, ast.Assign)
+BARRED = (ast.Global, ast.AsyncFunctionDef, ast.AsyncFor, ast.AsyncWith, ast.Await, ast.Div, ast.GeneratorExp, ast.Lambda,
+          ast.AnnAssign, ast.Import)
+WORDS = {"register", "elements", "open", "input", "law", "type", "id", "vars", "dir", "exec", "eval", "exit", "format"}
+
+
+def files():
+    return sorted(name for name in os.listdir(FOLDER) if name != "__pycache__")
+
+
+def source(name):
+    with open(os.path.join(FOLDER, name), encoding="utf-8") as held:
+        return held.read()
+
+
+def trees():
+    return [(name, ast.parse(source(name))) for name in files()]
+
+
+def names_bound(tree):
+    """All names that a file gives to something."""
+    bound = {node.id for node in ast.walk(tree) if isinstance(node, ast.Name) and not isinstance(node.ctx, ast.Load)}
+    bound |= {node.arg for node in ast.walk(tree) if isinstance(node, ast.arg)}
+    bound |= {node.name for node in ast.walk(tree) if isinstance(node, (ast.FunctionDef, ast.ClassDef))}
+    return bound | {name.name for node in ast.walk(tree) if isinstance(node, ast.ImportFrom) for name in node.names}
+
+
+class Rules(unittest.TestCase):
+    def test_files(self):
+        for name in files():
+            self.assertRegex(name, r"^[a-z_]+\.py$")
+            text = source(name)
+            self.assertTrue(all(sign == "\n" or " " <= sign <= "~" for sign in text), name)
+            self.assertLessEqual(len(text.splitlines()), 399, name)
+            self.assertLessEqual(max(map(len, text.splitlines())), 120, name)
+            self.assertFalse([line for line in text.splitlines() if line != line.rstrip()], name)
+
+    def test_module_level(self):
+        for name, tree in trees():
+            for at, node in enumerate(tree.body):
+                docstring = at == 0 and isinstance(node, ast.Expr)
+                self.assertTrue(docstring or isinstance(node, STATEMENTS), (name, node.lineno))
+                if isinstance(node, ast.Assign):
+                    self.assertEqual([isinstance(target, ast.Name) for target in node.targets], [True])
+
+    def test_functions_are_short(self):
+        for name, tree in trees():
+            for node in ast.walk(tree):
+                if isinstance(node, ast.FunctionDef):
+                    self.assertLessEqual(node.end_lineno - node.lineno + 1, 40, (name, node.name))
+
+    def test_nodes(self):
+        for name, tree in trees():
+            for node in ast.walk(tree):
+                self.assertNotIsInstance(node, BARRED, (name, getattr(node, "lineno", None)))
+                if isinstance(node, ast.Constant):
+                    self.assertNotIsInstance(node.value, (float, complex))
+                    self.assertNotIn("%", node.value if isinstance(node.value, str) else "")
+                if isinstance(node, ast.BinOp) and isinstance(node.op, ast.Pow):
+                    self.assertIn(node.right.value, range(65))
+                if isinstance(node, ast.ExceptHandler):
+                    self.assertIsNotNone(node.type)
+
+    def test_imports(self):
+        for name, tree in trees():
+            for node in ast.walk(tree):
+                if isinstance(node, ast.ImportFrom):
+                    self.assertEqual((node.level, node.module.split(".")[0]), (0, "swapkinds"), name)
+                    home = source(node.module.split(".")[1] + ".py")
+                    for imported in node.names:
+                        self.assertIsNone(imported.asname)
+                        self.assertRegex(home, rf"(?m)^((def|class) {imported.name}\(|class {imported.name}:|{imported.name} =)")
+                        self.assertGreater(source(name).count(imported.name), 1, (name, imported.name))
+
+    def test_names(self):
+        for name, tree in trees():
+            bound = names_bound(tree)
+            self.assertFalse(bound & (BUILTINS | WORDS), name)
+            for node in ast.walk(tree):
+                if isinstance(node, ast.Name) and isinstance(node.ctx, ast.Load):
+                    self.assertIn(node.id, bound | BUILTINS, (name, node.lineno))
+
+    def test_methods(self):
+        own = {node.name for _, tree in trees() for node in ast.walk(tree) if isinstance(node, ast.FunctionDef)}
+        for name, tree in trees():
+            for node in ast.walk(tree):
+                if isinstance(node, ast.Call) and isinstance(node.func, ast.Attribute):
+                    self.assertIn(node.func.attr, own | METHODS, (name, node.lineno))
+
+
+class Interface(unittest.TestCase):
+    def parameters(self, function, names):
+        self.assertEqual(list(inspect.signature(function).parameters), names, function)
+
+    def test_parameters(self):
+        for function, names in [
+                (yards.Yard, ["kinds", "rows"]), (yards.Yard.read, ["text"]), (rings.pairs_first, ["yard"]),
+                (rings.most_rings, ["yard"]), (rings.is_parting, ["yard", "value"]), (rings.ring_ranges, ["yard"])]:
+            self.parameters(function, names)
+        for function, names in [
+                (yards.Yard.cases, ["place", "thing"]), (yards.Yard.out, []), (yards.Yard.size, []),
+                (yards.Yard.made, ["move", "times"]), (yards.Yard.behind, ["plan"]), (yards.Yard.changed, ["changes"])]:
+            self.parameters(function, ["self"] + names)
+
+    def test_defined_where_they_are_listed(self):
+        for thing in (yards.Yard, rings.pairs_first, rings.most_rings, rings.is_parting, rings.ring_ranges):
+            self.assertEqual(thing.__module__, "swapkinds.yards" if thing is yards.Yard else "swapkinds.rings")
+        for name in ("read", "kinds", "rows", "cases", "out", "size", "made", "behind", "changed", "__eq__", "__len__",
+                     "__str__", "__repr__", "__add__"):
+            self.assertIn(name, vars(yards.Yard))
+
+    def test_nothing_but_classes_in_errors(self):
+        tree = ast.parse(inspect.getsource(errors))
+        self.assertEqual({node.__class__ for node in tree.body[1:]}, {ast.ClassDef})
+
+
+if __name__ == "__main__":
+    unittest.main()
