@@ -1,6 +1,6 @@
 """Rings of kinds, and the partings of a yard into them."""
 
-from swapkinds.tables import is_kind, is_number
+from swapkinds.tables import is_kind, is_number, is_pair
 from swapkinds.yards import check_yard
 
 
@@ -63,9 +63,7 @@ def is_ring(kinds, value):
 
 def is_part(kinds, value):
     """Whether a value is a pair of a ring of these kinds and how many there are of it."""
-    if not isinstance(value, tuple) or len(value) != 2:
-        return False
-    return is_ring(kinds, value[0]) and is_number(value[1], 1)
+    return is_pair(value) and is_ring(kinds, value[0]) and is_number(value[1], 1)
 
 
 def step_sums(count, parts):

@@ -21,13 +21,18 @@ def is_name(value):
     """Whether a value is a name."""
     if not isinstance(value, str) or not 1 <= len(value) <= LONGEST_NAME:
         return False
-    return value[0] in LETTERS and all([sign in LETTERS + DIGITS for sign in value])
+    return value[0] in LETTERS and all([sign in LETTERS or sign in DIGITS for sign in value])
 
 
 def is_kind(kinds, value):
     """Whether a value is one of the kinds."""
     # other values than strings may have an == of their own, so they are not compared
     return isinstance(value, str) and value in kinds
+
+
+def is_pair(value):
+    """Whether a value is a tuple of two."""
+    return isinstance(value, tuple) and len(value) == 2
 
 
 def is_row(value, count):
@@ -49,14 +54,12 @@ def is_move(kinds, value):
 
 def is_part_of_plan(kinds, value):
     """Whether a value is a pair of a move of these kinds and how often it is made."""
-    if not isinstance(value, tuple) or len(value) != 2:
-        return False
-    return is_move(kinds, value[0]) and is_number(value[1], 1)
+    return is_pair(value) and is_move(kinds, value[0]) and is_number(value[1], 1)
 
 
 def is_change(lines, value):
     """Whether a value is a pair of one of these lines and another line."""
-    if not isinstance(value, tuple) or len(value) != 2:
+    if not is_pair(value):
         return False
     old, new = value
     return isinstance(old, str) and old in lines and isinstance(new, str) and "\n" not in new
@@ -86,10 +89,16 @@ def greatest_number(rows):
     return max([max(row) for row in rows])
 
 
+def row_line(kind, row):
+    """The line of the text of a yard for one kind of places."""
+    words = [str(number) for number in row]
+    return " ".join([kind, *words])
+
+
 def text_lines(kinds, rows):
     """The lines of the text of a yard."""
-    named = [" ".join([kind] + [str(number) for number in row]) for kind, row in zip(kinds, rows)]
-    return [" ".join(["kinds"] + list(kinds))] + named
+    lines = [row_line(kind, row) for kind, row in zip(kinds, rows)]
+    return [" ".join(["kinds", *kinds]), *lines]
 
 
 def number_of(word):

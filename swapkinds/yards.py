@@ -137,7 +137,8 @@ class Yard:
         first, *lines = text_lines(self._kinds, self._rows)
         check_changes(changes, lines)
         news = {old: new for old, new in changes}
-        return Yard.read("\n".join([first] + [news.get(line, line) for line in lines]))
+        changed_lines = [news.get(line, line) for line in lines]
+        return Yard.read("\n".join([first, *changed_lines]))
 
     def __eq__(self, other):
         return isinstance(other, Yard) and self._kinds == other._kinds and self._rows == other._rows

@@ -16,8 +16,8 @@ METHODS = set("""append clear copy count endswith extend find get index insert i
     isupper items join keys ljust lower lstrip partition pop remove replace reverse rfind rjust rpartition rsplit rstrip
     setdefault split splitlines startswith strip update upper values zfill bit_length add discard""".split())
 STATEMENTS = (ast.FunctionDef, ast.ClassDef, ast.Import, ast.ImportFrom, ast.Assign)
-BARRED = (ast.Global, ast.AsyncFunctionDef, ast.AsyncFor, ast.AsyncWith, ast.Await, ast.Div, ast.GeneratorExp, ast.Lambda,
-          ast.AnnAssign, ast.Import)
+BARRED = (ast.Global, ast.AsyncFunctionDef, ast.AsyncFor, ast.AsyncWith, ast.Await, ast.Div, ast.GeneratorExp,
+          ast.Lambda, ast.AnnAssign, ast.Import)
 WORDS = {"register", "elements", "open", "input", "law", "type", "id", "vars", "dir", "exec", "eval", "exit", "format"}
 
 
@@ -86,7 +86,7 @@ class Rules(unittest.TestCase):
                     home = source(node.module.split(".")[1] + ".py")
                     for imported in node.names:
                         self.assertIsNone(imported.asname)
-                        self.assertRegex(home, rf"(?m)^((def|class) {imported.name}\(|class {imported.name}:|{imported.name} =)")
+                        self.assertRegex(home, rf"(?m)^((def|class) {imported.name}\b|{imported.name} =)")
                         self.assertGreater(source(name).count(imported.name), 1, (name, imported.name))
 
     def test_names(self):

@@ -93,8 +93,9 @@ class Making(Raising):
 
     def test_no_moves(self):
         for move in NO_MOVES:
-            self.raised(InvalidMove, "given", move, lambda: hall().made(move, 1), lambda: hall().made(times=1, move=move),
-                        lambda: hall().made(move, 0), lambda: hall().made(move, "one"))
+            self.raised(InvalidMove, "given", move, lambda: hall().made(move, 1),
+                        lambda: hall().made(times=1, move=move), lambda: hall().made(move, 0),
+                        lambda: hall().made(move, "one"))
         pair = Yard(("a", "b"), ((5, 5), (5, 5)))
         for move in (("a", "b", "b", "a", "c", "c"), ("a", "b", "b", "a", "a", "b"), ("a", "c", "b", "a")):
             self.raised(InvalidMove, "given", move, lambda: pair.made(move, 1))
@@ -110,7 +111,8 @@ class Making(Raising):
         yard = Yard(("x", "y", "z"), ((MOST, MOST, 1), (MOST, MOST, 1), (1, 1, 3)))
         swap = ("x", "y", "y", "x")
         self.raised(NotThere, "given", swap, lambda: yard.made(swap, MOST + 1))
-        self.raised(TooGreat, "given", 2 * MOST, lambda: yard.made(swap, MOST), lambda: yard.made(times=MOST, move=swap))
+        self.raised(TooGreat, "given", 2 * MOST, lambda: yard.made(swap, MOST),
+                    lambda: yard.made(times=MOST, move=swap))
         self.assertEqual(yard.rows, ((MOST, MOST, 1), (MOST, MOST, 1), (1, 1, 3)))
 
 
@@ -169,7 +171,8 @@ class Changes(Raising):
             self.assertEqual(hall().changed(changes).rows, hall().made(("a", "b", "b", "a"), 1).rows)
             self.assertEqual(hall().changed(changes=changes).kinds, ("a", "b", "c", "d"))
         lines = HALL_TEXT.split("\n")[1:]
-        self.assertEqual(hall().changed(tuple((line, line[:2] + "0 0 0 0") for line in reversed(lines))).rows, ((0,) * 4,) * 4)
+        changes = tuple((line, line[:2] + "0 0 0 0") for line in reversed(lines))
+        self.assertEqual(hall().changed(changes).rows, ((0,) * 4,) * 4)
 
     def test_the_same_line(self):
         self.assertEqual(hall().changed((("b 1 2 2 2", "b 1 2 2 2"),)), hall())
@@ -210,8 +213,8 @@ class Changes(Raising):
         self.raised(InvalidChanges, "index", 2, lambda: hall().changed((one, other, ("a 1 4 2 0", "a"))))
 
     def test_no_text_of_a_yard(self):
-        for new in ("", "a", "a 1 4 2", "a 1 4 2 1", "a 1 4 2 00", "e 1 4 2 0", " a 1 4 2 0", "a  1 4 2 0", "a 1 4 2 0 ",
-                    f"a {MOST + 1} 4 2 0", "a -1 4 2 0"):
+        for new in ("", "a", "a 1 4 2", "a 1 4 2 1", "a 1 4 2 00", "e 1 4 2 0", " a 1 4 2 0", "a  1 4 2 0",
+                    "a 1 4 2 0 ", f"a {MOST + 1} 4 2 0", "a -1 4 2 0"):
             with self.assertRaises(InvalidText) as caught:
                 hall().changed((("a 1 4 2 0", new),))
             self.assertEqual(caught.exception.given, HALL_TEXT.replace("a 1 4 2 0", new))

@@ -5,8 +5,7 @@ import unittest
 from swapkinds.errors import NotYard
 from swapkinds.rings import is_parting, most_rings, pairs_first, ring_ranges
 from swapkinds.yards import Yard
-from tests.samples import MOST, all_partings, hall, named, rings_by_places, rows_of_rings, steps_of
-from tests.samples import values_of_all_kinds
+from tests.samples import MOST, all_partings, hall, named, rings_by_places, rows_of_rings, values_of_all_kinds
 
 KINDS = ("d", "b", "a", "c")
 
@@ -19,7 +18,8 @@ def ranges_of(partings):
     """The ranges of rings by their size over those of the partings that have the most rings."""
     most = max(many(parts) for parts in partings)
     best = [parts for parts in partings if many(parts) == most]
-    return tuple((min(many(parts, size) for parts in best), max(many(parts, size) for parts in best)) for size in (2, 3, 4))
+    counts = [[many(parts, size) for parts in best] for size in (2, 3, 4)]
+    return tuple((min(numbers), max(numbers)) for numbers in counts)
 
 
 def least_back(rows):
@@ -94,16 +94,17 @@ class Great(unittest.TestCase):
 
     def test_both_ends_of_ranges(self):
         # the ring of four and both rings of two across it, with numbers that differ in the last digits
-        for four, one, other in ((10 ** 29 + 5, 10 ** 28 + 1, 3), (10 ** 28, 10 ** 28 - 4, 3), (10 ** 28, 10 ** 29, 10 ** 28),
-                                 (7, 10 ** 29, 0), (10 ** 29, 0, 0)):
+        for four, one, other in ((10 ** 29 + 5, 10 ** 28 + 1, 3), (10 ** 28, 10 ** 28 - 4, 3), (7, 10 ** 29, 0),
+                                 (10 ** 28, 10 ** 29, 10 ** 28), (10 ** 29, 0, 0)):
             parts = [((0, 2), one), ((1, 3), other), ((0, 1, 2, 3), four)]
             yard = Yard(KINDS, rows_of_rings(4, parts))
             away = min(four, one + other)
             self.assertEqual(most_rings(yard), four + one + other)
             self.assertEqual(ring_ranges(yard), ((one + other - away, one + other), (0, 2 * away), (four - away, four)))
             taken = min(one, away)
-            ends = [((0, 2), one - taken), ((1, 3), other - away + taken), ((0, 1, 2), taken), ((0, 1, 3), away - taken),
-                    ((0, 2, 3), taken), ((1, 2, 3), away - taken), ((0, 1, 2, 3), four - away)]
+            ends = [((0, 2), one - taken), ((1, 3), other - away + taken), ((0, 1, 2), taken),
+                    ((0, 1, 3), away - taken), ((0, 2, 3), taken), ((1, 2, 3), away - taken),
+                    ((0, 1, 2, 3), four - away)]
             self.assertIs(is_parting(yard, named([part for part in ends if part[1]], KINDS)), True)
 
     def test_greatest_numbers(self):
@@ -116,11 +117,12 @@ class Partings(unittest.TestCase):
     def test_one_part_otherwise(self):
         first = pairs_first(hall())
         for at, (ring, number) in enumerate(first):
-            others = [(ring, number + 1), (ring, number - 1), (ring, True), (ring, str(number)), (ring, -number), (ring, None),
-                      [ring, number], (list(ring), number), (ring[::-1][:-1], number), (ring[1:] + ring[:1], number),
-                      (ring,), (ring, number, 0), (number, ring), ring, number, (ring + ring[:1], number), (ring[:1], number),
-                      (ring[:-1] + ("e",), number), (ring[:-1] + (None,), number), (ring[:-1] + ring[:1], number), ("", number)]
-            for part in others + values_of_all_kinds() + [(value, number) for value in values_of_all_kinds()]:
+            numbers = [number + 1, number - 1, -number, True, None, str(number), (number,)]
+            rings = [list(ring), ring[::-1][:-1], ring[1:] + ring[:1], ring + ring[:1], ring[:1], ring[:-1] + ("e",),
+                     ring[:-1] + (None,), ring[:-1] + ring[:1]] + values_of_all_kinds()
+            others = [[ring, number], (ring,), (ring, number, 0), (number, ring), ring, number] + values_of_all_kinds()
+            others += [(ring, other) for other in numbers] + [(other, number) for other in rings]
+            for part in others:
                 self.assertIs(is_parting(hall(), first[:at] + (part,) + first[at + 1:]), False, part)
             self.assertIs(is_parting(hall(), first[:at] + first[at + 1:]), False)
             self.assertIs(is_parting(hall(), first[:at] + (first[at],) + first[at:]), False)
@@ -137,6 +139,13 @@ class Partings(unittest.TestCase):
         self.assertIs(is_parting(yard, ((ring, 2),)), True)
         self.assertIs(is_parting(yard, ((ring, 1), (ring, 1))), False)
         self.assertIs(is_parting(yard, ((ring, 3), (ring, -1))), False)
+
+    def test_a_kind_twice_in_a_ring(self):
+        first = pairs_first(hall())
+        self.assertIs(is_parting(hall(), ((("a", "a"), 1),) + first), False)
+        yard = Yard(KINDS, rows_of_rings(4, [((0, 1), 2)]))
+        self.assertIs(is_parting(yard, ((("d", "b"), 2),)), True)
+        self.assertIs(is_parting(yard, ((("d", "b", "d", "b"), 1),)), False)
 
     def test_true_is_no_number(self):
         yard = Yard(("a", "b"), ((0, 1), (1, 0)))
@@ -177,9 +186,6 @@ class NoYards(unittest.TestCase):
         first = pairs_first(yard=hall())
         self.assertEqual([most_rings(yard=hall()), ring_ranges(yard=hall())], [many(first), ring_ranges(hall())])
         self.assertIs(is_parting(value=first, yard=hall()), True)
-
-    def test_steps_of_the_samples(self):
-        self.assertEqual(steps_of((0, 1, 2)), [(2, 0), (0, 1), (1, 2)])
 
 
 if __name__ == "__main__":

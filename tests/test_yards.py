@@ -45,7 +45,8 @@ class Made(unittest.TestCase):
             self.kinds_fault(kinds, None, "rows")
 
     def test_kinds_that_are_no_names(self):
-        no_names = values_of_all_kinds() + ["A", "aB", "1a", "abcdefghi", "a-b", "a_b", "a ", " a", "a\n", "\n", "a.b", ("a",), 1, 0]
+        no_names = values_of_all_kinds() + ["A", "aB", "1a", "abcdefghi", "a-b", "a_b", "a ", " a", "a\n", "\n", "a.b"]
+        no_names += [("a",), 1, 0]
         for value in no_names:
             self.kinds_fault((value, "b"), 0)
             self.kinds_fault(("b", value), 1)
@@ -185,7 +186,8 @@ class Texts(unittest.TestCase):
 class Equality(unittest.TestCase):
     def test_equal_exactly_if_the_texts_are(self):
         yards = [hall(), Yard(("a", "b", "c", "d"), HALL_ROWS), hall() + hall(), Yard(("a", "b"), ((0, 0), (0, 0))),
-                 Yard(("b", "a"), ((0, 0), (0, 0))), Yard(("a", "c"), ((0, 0), (0, 0))), Yard(("a", "b"), ((0, 0), (0, 1))),
+                 Yard(("b", "a"), ((0, 0), (0, 0))), Yard(("a", "c"), ((0, 0), (0, 0))),
+                 Yard(("a", "b"), ((0, 0), (0, 1))),
                  Yard(("a", "b"), ((1, 0), (0, 0))), Yard(("a", "b", "c"), ((0,) * 3,) * 3)]
         for one in yards:
             for other in yards:
