@@ -1,6 +1,6 @@
 """Rings of kinds, and the partings of a yard into them."""
 
-from swapkinds.tables import is_kind, is_number, is_pair
+from swapkinds.tables import are_different_kinds, indexes_of, is_number, is_pair, named
 from swapkinds.yards import check_yard
 
 
@@ -22,6 +22,12 @@ def ring_steps(ring):
     return [(ring[k - 1], ring[k]) for k in range(len(ring))]
 
 
+def take_away(left, ring, number):
+    """Takes the cases of so many rings out of a table of lists."""
+    for place, thing in ring_steps(ring):
+        left[place][thing] -= number
+
+
 def pairs_first_numbers(rows):
     """The pairs first parting of a table with numbers of any size, by indexes of kinds: pairs (ring, number)."""
     left = [list(row) for row in rows]
@@ -31,8 +37,7 @@ def pairs_first_numbers(rows):
     for size in (2, 4, 3):
         for ring in rings_of_size(len(rows), size):
             numbers[ring] = min([left[place][thing] for place, thing in ring_steps(ring)])
-            for place, thing in ring_steps(ring):
-                left[place][thing] -= numbers[ring]
+            take_away(left, ring, numbers[ring])
     rings = [ring for size in (2, 3, 4) for ring in rings_of_size(len(rows), size)]
     return [(ring, numbers[ring]) for ring in rings if numbers[ring] > 0]
 
@@ -40,8 +45,7 @@ def pairs_first_numbers(rows):
 def pairs_first(yard):
     """The parting that has of each ring of two as many as there can be."""
     check_yard(yard)
-    parts = pairs_first_numbers(yard.rows)
-    return tuple([(tuple([yard.kinds[at] for at in ring]), number) for ring, number in parts])
+    return named(yard.kinds, pairs_first_numbers(yard.rows))
 
 
 def most_rings(yard):
@@ -53,11 +57,9 @@ def most_rings(yard):
 
 def is_ring(kinds, value):
     """Whether a value is a ring of these kinds."""
-    if not isinstance(value, tuple) or not 2 <= len(value) <= len(kinds):
+    if not are_different_kinds(kinds, value) or len(value) < 2:
         return False
-    if not all([is_kind(kinds, kind) for kind in value]) or len(set(value)) < len(value):
-        return False
-    places = [kinds.index(kind) for kind in value]
+    places = indexes_of(kinds, value)
     return places[0] == min(places)
 
 
@@ -81,13 +83,18 @@ def is_parting(yard, value):
     kinds = yard.kinds
     if not isinstance(value, tuple) or not all([is_part(kinds, part) for part in value]):
         return False
-    parts = [(tuple([kinds.index(kind) for kind in ring]), number) for ring, number in value]
+    parts = [(indexes_of(kinds, ring), number) for ring, number in value]
     ranks = [(len(ring), ring) for ring, _ in parts]
     if not all([ranks[k] < ranks[k + 1] for k in range(len(ranks) - 1)]):
         return False
     sums = step_sums(len(kinds), parts)
     steps = arrangements(len(kinds), 2)
     return all([sums[place][thing] == yard.rows[place][thing] for place, thing in steps])
+
+
+def rings_by_size(parts):
+    """How many rings of two, three and four the parts have."""
+    return [sum([number for ring, number in parts if len(ring) == size]) for size in (2, 3, 4)]
 
 
 def tradable(parts):
@@ -107,6 +114,6 @@ def ring_ranges(yard):
     # In a best order each of their rings has one step back. That leaves one ring of four (i, j, k, l), and its
     # number less those of the rings (i, k) and (j, l) is the same for all of them. Pairs first has the most of each.
     parts = pairs_first_numbers(yard.rows)
-    twos, threes, fours = [sum([number for ring, number in parts if len(ring) == size]) for size in (2, 3, 4)]
+    twos, threes, fours = rings_by_size(parts)
     traded = tradable(parts)
     return ((twos - traded, twos), (threes, threes + 2 * traded), (fours - traded, fours))

@@ -30,6 +30,38 @@ def is_kind(kinds, value):
     return isinstance(value, str) and value in kinds
 
 
+def are_different_kinds(kinds, value):
+    """Whether a value is a tuple of the kinds, each of them there once at most."""
+    if not isinstance(value, tuple) or not all([is_kind(kinds, kind) for kind in value]):
+        return False
+    return len(set(value)) == len(value)
+
+
+def is_order(kinds, value):
+    """Whether a value is an order of all these kinds."""
+    return are_different_kinds(kinds, value) and len(value) == len(kinds)
+
+
+def indexes_of(kinds, chosen):
+    """The indexes of chosen kinds among all of them, as a tuple."""
+    return tuple([kinds.index(kind) for kind in chosen])
+
+
+def kinds_at(kinds, indexes):
+    """The kinds at these indexes, as a tuple."""
+    return tuple([kinds[at] for at in indexes])
+
+
+def named(kinds, pairs):
+    """A parting or a plan whose rings or moves are told by indexes, as one of kinds."""
+    return tuple([(kinds_at(kinds, indexes), number) for indexes, number in pairs])
+
+
+def case_sum(rows, steps):
+    """How many cases the steps, told by indexes, have together."""
+    return sum([rows[place][thing] for place, thing in steps])
+
+
 def is_pair(value):
     """Whether a value is a tuple of two."""
     return isinstance(value, tuple) and len(value) == 2
@@ -67,7 +99,7 @@ def is_change(lines, value):
 
 def exchanges(kinds, move):
     """For each place of a move: the place, the thing that goes and the thing that comes, by their indexes."""
-    at = [kinds.index(kind) for kind in move]
+    at = indexes_of(kinds, move)
     return [(at[k], at[k + 1], at[k - 1]) for k in range(0, len(at), 2)]
 
 

@@ -56,6 +56,18 @@ def check_yard(value):
         raise NotYard(value)
 
 
+def check_move(kinds, move):
+    """Raises InvalidMove if this is no move of these kinds."""
+    if not is_move(kinds, move):
+        raise InvalidMove(move)
+
+
+def check_number(number, least):
+    """Raises InvalidNumber if this is no integer from the least one on."""
+    if not is_number(number, least):
+        raise InvalidNumber(number)
+
+
 class Yard:
     """Two to four kinds, and how many things of each kind lie at the places of each kind."""
 
@@ -108,10 +120,8 @@ class Yard:
 
     def made(self, move, times):
         """The yard behind a move that is made so often."""
-        if not is_move(self._kinds, move):
-            raise InvalidMove(move)
-        if not is_number(times, 1):
-            raise InvalidNumber(times)
+        check_move(self._kinds, move)
+        check_number(times, 1)
         rows = rows_behind(self._kinds, self._rows, move, times)
         if rows is None:
             raise NotThere(move)

@@ -1,6 +1,7 @@
 """Yards and values that several tests use."""
 
 import itertools
+import unittest
 
 from swapkinds.yards import Yard
 
@@ -39,6 +40,27 @@ def values_of_all_kinds():
     return [None, True, False, "", "Z", " ", b"", b"a", (), [], {}, set(), frozenset(), object(), Agreeing(),
             Refusing(), 1j, ..., NotImplemented, int, Yard, len, range(2), [1], {"a": 1}, ValueError("a"), -1,
             "a b", ["a", "b"], iter(())]
+
+
+# no moves of the hall
+NO_MOVES = values_of_all_kinds() + [
+    ("a", "b", "a", "c"), ("a", "b", "b", "b"), ("a", "b", "c"), ("a", "b", "b", "a", "c"), ("a", "b", "e", "a"),
+    ("a", "e", "b", "a"), ["a", "b", "b", "a"], ("a", "b", "b", None), ("a", "b", "b", ("a",)), ("a", 1, "b", 0),
+    ("a", "c", "c", "d", "d", "c", "b", "a"), ("a", "c", "b", "c", "d", "c"), ("a", "b", "b", "c", "a", "d"),
+    ("a", "b", "b", "c", "b", "a"), ("a", "a", "a", "b", "b", "c"), ("a", "b", "b", "c", "e", "a"), "abba",
+    (("a", "b"), ("b", "a")), ("a", "b"), ("a", "b", "b", ["a"]), ("a", "b", "b", {})]
+
+
+class Raising(unittest.TestCase):
+    def raised(self, error, attribute, value, *calls):
+        for call in calls:
+            with self.assertRaises(error) as caught:
+                call()
+            self.assertIs(type(caught.exception), error)
+            if isinstance(value, int) and not isinstance(value, bool):
+                self.assertEqual(getattr(caught.exception, attribute), value)
+            else:
+                self.assertIs(getattr(caught.exception, attribute), value)
 
 
 def rings_by_places(count):

@@ -6,8 +6,16 @@ import os
 import unittest
 
 import swapkinds
-from swapkinds import errors, rings, yards
+from swapkinds import errors, firsts, orders, plans, rings, turns, yards
 
+# the functions that the interface lists, with their parameters
+FUNCTIONS = {
+    rings: {"pairs_first": ["yard"], "most_rings": ["yard"], "is_parting": ["yard", "value"], "ring_ranges": ["yard"]},
+    orders: {"forward": ["yard", "order"], "best_orders": ["yard"], "least_swaps": ["yard"]},
+    plans: {"swap_plan": ["yard"], "plan_length": ["plan"], "most_in_place": ["yard", "number"],
+            "swaps_for": ["yard", "number"]},
+    turns: {"most_threes": ["yard"], "least_moves": ["yard"], "move_plan": ["yard"], "least_bar": ["yard"]},
+    firsts: {"is_good": ["yard", "move"], "good_times": ["yard", "move"], "good_swaps": ["yard"]}}
 FOLDER = os.path.dirname(swapkinds.__file__)
 BUILTINS = set("""len range enumerate zip min max sum abs sorted reversed int str bool bytes list tuple dict set
     isinstance ord repr any all divmod classmethod staticmethod property super NotImplemented Exception ValueError
@@ -110,18 +118,21 @@ class Interface(unittest.TestCase):
         self.assertEqual(list(inspect.signature(function).parameters), names, function)
 
     def test_parameters(self):
-        for function, names in [
-                (yards.Yard, ["kinds", "rows"]), (yards.Yard.read, ["text"]), (rings.pairs_first, ["yard"]),
-                (rings.most_rings, ["yard"]), (rings.is_parting, ["yard", "value"]), (rings.ring_ranges, ["yard"])]:
-            self.parameters(function, names)
+        self.parameters(yards.Yard, ["kinds", "rows"])
+        self.parameters(yards.Yard.read, ["text"])
+        for module, functions in FUNCTIONS.items():
+            for name, names in functions.items():
+                self.parameters(getattr(module, name), names)
         for function, names in [
                 (yards.Yard.cases, ["place", "thing"]), (yards.Yard.out, []), (yards.Yard.size, []),
                 (yards.Yard.made, ["move", "times"]), (yards.Yard.behind, ["plan"]), (yards.Yard.changed, ["changes"])]:
             self.parameters(function, ["self"] + names)
 
     def test_defined_where_they_are_listed(self):
-        for thing in (yards.Yard, rings.pairs_first, rings.most_rings, rings.is_parting, rings.ring_ranges):
-            self.assertEqual(thing.__module__, "swapkinds.yards" if thing is yards.Yard else "swapkinds.rings")
+        self.assertEqual(yards.Yard.__module__, "swapkinds.yards")
+        for module, functions in FUNCTIONS.items():
+            for name in functions:
+                self.assertEqual(getattr(module, name).__module__, module.__name__)
         for name in ("read", "kinds", "rows", "cases", "out", "size", "made", "behind", "changed", "__eq__", "__len__",
                      "__str__", "__repr__", "__add__"):
             self.assertIn(name, vars(yards.Yard))

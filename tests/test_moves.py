@@ -6,27 +6,9 @@ import unittest
 from swapkinds.errors import InvalidChanges, InvalidMove, InvalidNumber, InvalidPlan, InvalidText, NotThere
 from swapkinds.errors import OtherKinds, TooGreat
 from swapkinds.yards import Yard
-from tests.samples import HALL_ROWS, HALL_TEXT, MOST, hall, values_of_all_kinds
+from tests.samples import HALL_ROWS, HALL_TEXT, MOST, NO_MOVES, Raising, hall, values_of_all_kinds
 
-NO_MOVES = values_of_all_kinds() + [
-    ("a", "b", "a", "c"), ("a", "b", "b", "b"), ("a", "b", "c"), ("a", "b", "b", "a", "c"), ("a", "b", "e", "a"),
-    ("a", "e", "b", "a"), ["a", "b", "b", "a"], ("a", "b", "b", None), ("a", "b", "b", ("a",)), ("a", 1, "b", 0),
-    ("a", "c", "c", "d", "d", "c", "b", "a"), ("a", "c", "b", "c", "d", "c"), ("a", "b", "b", "c", "a", "d"),
-    ("a", "b", "b", "c", "b", "a"), ("a", "a", "a", "b", "b", "c"), ("a", "b", "b", "c", "e", "a"), "abba",
-    (("a", "b"), ("b", "a")), ("a", "b"), ("a", "b", "b", ["a"]), ("a", "b", "b", {})]
 NO_TIMES = values_of_all_kinds() + [0, -1, -10 ** 30, "1", (1,), True, False]
-
-
-class Raising(unittest.TestCase):
-    def raised(self, error, attribute, value, *calls):
-        for call in calls:
-            with self.assertRaises(error) as caught:
-                call()
-            self.assertIs(type(caught.exception), error)
-            if isinstance(value, int):
-                self.assertEqual(getattr(caught.exception, attribute), value)
-            else:
-                self.assertIs(getattr(caught.exception, attribute), value)
 
 
 def made_one_by_one(yard, move, times):
