@@ -1,25 +1,26 @@
 """Orders of the kinds: the steps that go forward in a best one are as many as the swaps that are needed."""
 
 from swapkinds.errors import InvalidOrder
-from swapkinds.rings import arrangements
-from swapkinds.tables import case_sum, indexes_of, is_order, kinds_at
+from swapkinds.shapes import FORWARD, ORDERS
+from swapkinds.tables import case_sum, cells_of, indexes_of, is_order, kinds_at
 from swapkinds.yards import check_yard
 
 
-def forward_steps(order):
-    """All steps that go forward in an order."""
-    return [(order[at], order[to]) for at in range(len(order)) for to in range(at + 1, len(order))]
-
-
 def forward_counts(rows):
-    """All orders of the kinds of a table, by indexes, ascending: pairs (order, cases of the steps forward)."""
-    orders = arrangements(len(rows), len(rows))
-    return [(order, case_sum(rows, forward_steps(order))) for order in orders]
+    """How many cases the steps that go forward have together, for each order of the kinds of a table."""
+    cells = cells_of(rows)
+    return [case_sum(cells, steps) for steps in FORWARD[len(rows)]]
 
 
 def fewest_swaps(rows):
     """The fewest swaps that put a table right, with numbers of any size."""
-    return max([cases for _, cases in forward_counts(rows)])
+    return max(forward_counts(rows))
+
+
+def first_best_order(rows):
+    """The first order, by indexes, in which the steps that go forward have the most cases."""
+    counts = forward_counts(rows)
+    return ORDERS[len(rows)][counts.index(max(counts))]
 
 
 def forward(yard, order):
@@ -27,14 +28,17 @@ def forward(yard, order):
     check_yard(yard)
     if not is_order(yard.kinds, order):
         raise InvalidOrder(order)
-    return case_sum(yard.rows, forward_steps(indexes_of(yard.kinds, order)))
+    at = ORDERS[len(yard)].index(indexes_of(yard.kinds, order))
+    return case_sum(cells_of(yard.rows), FORWARD[len(yard)][at])
 
 
 def best_orders(yard):
     """All orders in which the steps that go forward have the most cases."""
     check_yard(yard)
-    most = fewest_swaps(yard.rows)
-    return tuple([kinds_at(yard.kinds, order) for order, cases in forward_counts(yard.rows) if cases == most])
+    counts = forward_counts(yard.rows)
+    most = max(counts)
+    orders = [order for order, cases in zip(ORDERS[len(yard)], counts) if cases == most]
+    return tuple([kinds_at(yard.kinds, order) for order in orders])
 
 
 def least_swaps(yard):

@@ -1,45 +1,45 @@
 """Rings of kinds, and the partings of a yard into them."""
 
-from swapkinds.tables import are_different_kinds, indexes_of, is_number, is_pair, named
+from swapkinds.shapes import FOURS, THREES, TWOS
+from swapkinds.tables import are_different_kinds, cells_of, indexes_of, is_in_place, is_number, is_pair, named
 from swapkinds.yards import check_yard
 
 
-def arrangements(count, size):
-    """All tuples of so many different ones of the indexes below count, ascending."""
-    found = [()]
-    for _ in range(size):
-        found = [begun + (at,) for begun in found for at in range(count) if at not in begun]
-    return found
+def take_rings(left, rings):
+    """Takes as many as there can be of each ring out of cells, one ring behind another: pairs (ring, number)."""
+    taken = []
+    for ring, steps in rings:
+        number = min([left[at] for at in steps])
+        if number > 0:
+            take_away(left, steps, number)
+            taken.append((ring, number))
+    return taken
 
 
-def rings_of_size(count, size):
-    """All rings of so many kinds, by their indexes, ascending."""
-    return [ring for ring in arrangements(count, size) if ring[0] == min(ring)]
+def take_away(left, steps, number):
+    """Takes the cases of so many rings with these steps out of cells."""
+    for at in steps:
+        left[at] -= number
 
 
-def ring_steps(ring):
-    """The steps of a ring, that from its last kind to its first one ahead of the others."""
-    return [(ring[k - 1], ring[k]) for k in range(len(ring))]
-
-
-def take_away(left, ring, number):
-    """Takes the cases of so many rings out of a table of lists."""
-    for place, thing in ring_steps(ring):
-        left[place][thing] -= number
+def pairs_first_parts(count, left):
+    """The pairs first parting of cells with numbers of any size, which are taken out: pairs (ring, number)."""
+    # Without rings of two, each two kinds have steps one way only, so there is at most one ring of four, and
+    # one of its steps is in no ring of three; without it each ring of three has a step that is in no other one.
+    twos = take_rings(left, TWOS[count])
+    fours = take_rings(left, FOURS[count])
+    return twos + take_rings(left, THREES[count]) + fours
 
 
 def pairs_first_numbers(rows):
     """The pairs first parting of a table with numbers of any size, by indexes of kinds: pairs (ring, number)."""
-    left = [list(row) for row in rows]
-    numbers = {}
-    # Without rings of two, each two kinds have steps one way only, so there is at most one ring of four, and
-    # one of its steps is in no ring of three; without it each ring of three has a step that is in no other one.
-    for size in (2, 4, 3):
-        for ring in rings_of_size(len(rows), size):
-            numbers[ring] = min([left[place][thing] for place, thing in ring_steps(ring)])
-            take_away(left, ring, numbers[ring])
-    rings = [ring for size in (2, 3, 4) for ring in rings_of_size(len(rows), size)]
-    return [(ring, numbers[ring]) for ring in rings if numbers[ring] > 0]
+    return pairs_first_parts(len(rows), cells_of(rows))
+
+
+def ring_count(rows):
+    """The greatest number of rings of a parting of a table."""
+    # no parting has more rings than the one that takes pairs first
+    return sum([number for _, number in pairs_first_numbers(rows)])
 
 
 def pairs_first(yard):
@@ -51,8 +51,7 @@ def pairs_first(yard):
 def most_rings(yard):
     """The greatest number of rings of a parting."""
     check_yard(yard)
-    # no parting has more rings than the one that takes pairs first
-    return sum([number for _, number in pairs_first_numbers(yard.rows)])
+    return ring_count(yard.rows)
 
 
 def is_ring(kinds, value):
@@ -68,13 +67,9 @@ def is_part(kinds, value):
     return is_pair(value) and is_ring(kinds, value[0]) and is_number(value[1], 1)
 
 
-def step_sums(count, parts):
-    """How many cases of each step the rings of the parts have, as a table; rings are told by indexes."""
-    sums = [[0] * count for _ in range(count)]
-    for ring, number in parts:
-        for place, thing in ring_steps(ring):
-            sums[place][thing] += number
-    return sums
+def ring_cells(count, ring):
+    """The steps of a ring by their cells, that from its last kind to its first one ahead of the others."""
+    return [ring[k - 1] * count + ring[k] for k in range(len(ring))]
 
 
 def is_parting(yard, value):
@@ -87,9 +82,11 @@ def is_parting(yard, value):
     ranks = [(len(ring), ring) for ring, _ in parts]
     if not all([ranks[k] < ranks[k + 1] for k in range(len(ranks) - 1)]):
         return False
-    sums = step_sums(len(kinds), parts)
-    steps = arrangements(len(kinds), 2)
-    return all([sums[place][thing] == yard.rows[place][thing] for place, thing in steps])
+    left = cells_of(yard.rows)
+    for ring, number in parts:
+        take_away(left, ring_cells(len(kinds), ring), number)
+    # what lies in place is in no ring
+    return all([number == 0 for at, number in enumerate(left) if not is_in_place(len(kinds), at)])
 
 
 def rings_by_size(parts):

@@ -57,9 +57,19 @@ def named(kinds, pairs):
     return tuple([(kinds_at(kinds, indexes), number) for indexes, number in pairs])
 
 
-def case_sum(rows, steps):
-    """How many cases the steps, told by indexes, have together."""
-    return sum([rows[place][thing] for place, thing in steps])
+def cells_of(rows):
+    """The numbers of a table as one list, its rows one behind another."""
+    return [number for row in rows for number in row]
+
+
+def is_in_place(count, at):
+    """Whether the cell is that of a kind at its own places, and so that of no step."""
+    return at // count == at % count
+
+
+def case_sum(cells, steps):
+    """How many cases the steps, told by their cells, have together."""
+    return sum([cells[at] for at in steps])
 
 
 def is_pair(value):
