@@ -5,6 +5,8 @@ from swapkinds.limits import MOST_COUNT
 LETTERS = "abcdefghijklmnopqrstuvwxyz"
 DIGITS = "0123456789"
 LONGEST_NAME = 8
+# what is told in the place of a last or greatest number where there is none
+ENDLESS = "endless"
 
 
 def is_integer(value):
@@ -62,6 +64,11 @@ def cells_of(rows):
     return [number for row in rows for number in row]
 
 
+def rows_of_cells(count, cells):
+    """The rows of a table whose numbers stand one behind another."""
+    return tuple([tuple(cells[at:at + count]) for at in range(0, count * count, count)])
+
+
 def is_in_place(count, at):
     """Whether the cell is that of a kind at its own places, and so that of no step."""
     return at // count == at % count
@@ -113,6 +120,11 @@ def exchanges(kinds, move):
     return [(at[k], at[k + 1], at[k - 1]) for k in range(0, len(at), 2)]
 
 
+def things_out(rows):
+    """How many things are not in place."""
+    return sum([sum(row) - row[at] for at, row in enumerate(rows)])
+
+
 def rows_behind(kinds, rows, move, times):
     """The rows behind a move that is made so often, with numbers of any size; None if it cannot be made so."""
     table = [list(row) for row in rows]
@@ -124,6 +136,19 @@ def rows_behind(kinds, rows, move, times):
         table[place][goes] -= times
         table[place][comes] += times
     return tuple([tuple(row) for row in table])
+
+
+def unbalanced_at(rows):
+    """The first index of a row that has another sum than the column of this index; None if there is none."""
+    for at, row in enumerate(rows):
+        if sum(row) != sum([other[at] for other in rows]):
+            return at
+    return None
+
+
+def is_balanced(rows):
+    """Whether each row has the same sum as the column of its index."""
+    return unbalanced_at(rows) is None
 
 
 def greatest_number(rows):
@@ -151,6 +176,17 @@ def number_of(word):
     return -1
 
 
+def numbers_of_line(line):
+    """The numbers that stand in a line of a text behind its first word, whatever this is; -1 for what is none."""
+    return tuple([number_of(word) for word in line.split(" ")[1:]])
+
+
+def row_of_line(kinds, place, line):
+    """The row that a line tells for the places of one kind, by its index; None if it is no such line."""
+    row = numbers_of_line(line)
+    return row if is_row(row, len(kinds)) and row_line(kinds[place], row) == line else None
+
+
 def kinds_of_text(text):
     """The kinds that stand in the first line of a text, whatever they are."""
     return tuple(text.split("\n")[0].split(" ")[1:])
@@ -158,4 +194,4 @@ def kinds_of_text(text):
 
 def rows_of_text(text):
     """The rows that stand in the other lines of a text, whatever their first words are."""
-    return tuple([tuple([number_of(word) for word in line.split(" ")[1:]]) for line in text.split("\n")[1:]])
+    return tuple([numbers_of_line(line) for line in text.split("\n")[1:]])

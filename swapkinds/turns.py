@@ -3,7 +3,7 @@
 from swapkinds.plans import ring_swaps
 from swapkinds.rings import pairs_first_parts, take_away
 from swapkinds.shapes import BARS, LEAN_BARS, SURPLUS, THREES
-from swapkinds.tables import case_sum, cells_of, kinds_at, named
+from swapkinds.tables import case_sum, cells_of, kinds_at, named, things_out
 from swapkinds.yards import check_yard
 
 
@@ -26,9 +26,7 @@ def fewest_cases_bar(rows):
 
 def fewest_moves(rows):
     """The fewest moves that put a table right, with numbers of any size."""
-    cells = cells_of(rows)
-    out = sum(cells) - sum([row[at] for at, row in enumerate(rows)])
-    return (out - fewest_bar_cases(len(rows), cells)) // 2
+    return (things_out(rows) - fewest_bar_cases(len(rows), cells_of(rows))) // 2
 
 
 def take_threes(count, left):

@@ -4,7 +4,7 @@ from swapkinds.errors import InvalidChanges, InvalidKind, InvalidKinds, InvalidM
 from swapkinds.errors import InvalidRows, InvalidText, NotThere, NotYard, OtherKinds, TooGreat, Unbalanced
 from swapkinds.limits import MOST_COUNT, MOST_KINDS
 from swapkinds.tables import greatest_number, is_change, is_kind, is_move, is_name, is_number, is_part_of_plan, is_row
-from swapkinds.tables import kinds_of_text, rows_behind, rows_of_text, text_lines
+from swapkinds.tables import kinds_of_text, rows_behind, rows_of_text, text_lines, things_out, unbalanced_at
 
 
 def check_kinds(kinds):
@@ -27,9 +27,9 @@ def check_rows(rows, count):
 
 def check_balance(kinds, rows):
     """Raises Unbalanced if a kind has another number of things than of places."""
-    for at, kind in enumerate(kinds):
-        if sum(rows[at]) != sum([row[at] for row in rows]):
-            raise Unbalanced(kind)
+    at = unbalanced_at(rows)
+    if at is not None:
+        raise Unbalanced(kinds[at])
 
 
 def check_not_too_great(rows):
@@ -112,7 +112,7 @@ class Yard:
 
     def out(self):
         """How many things are not in place."""
-        return self.size() - sum([row[at] for at, row in enumerate(self._rows)])
+        return things_out(self._rows)
 
     def size(self):
         """How many things there are."""

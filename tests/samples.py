@@ -51,6 +51,14 @@ NO_MOVES = values_of_all_kinds() + [
     (("a", "b"), ("b", "a")), ("a", "b"), ("a", "b", "b", ["a"]), ("a", "b", "b", {})]
 
 
+NO_WISHES = values_of_all_kinds() + [
+    ("swaps",), ("swaps", 1, 1), ["swaps", 1], ("swaps", -1), ("swaps", True), ("swaps", False), ("swaps", None),
+    ("swaps", "1"), ("Swaps", 1), ("swap", 1), ("", 1), (None, 1), (1, "swaps"), (b"out", 1), (("out",), 1),
+    ("out", (1,)),
+    ("threes", 1), ("size", 1), ("out ", 1), ("out", [1]), (["out"], 1), (Agreeing(), 1), (Refusing(), 1),
+    ("out", Agreeing()), ("moves rings", 1), "out", ("out", -10 ** 40), (("out", 1),)]
+
+
 class Raising(unittest.TestCase):
     def raised(self, error, attribute, value, *calls):
         for call in calls:

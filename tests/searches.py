@@ -66,6 +66,12 @@ def needed(sums, sizes):
     return distances(put_right(sums), sizes)
 
 
+def swaps_of_rows(rows):
+    """The fewest swaps of a table with numbers of any size: the most cases of steps forward in an order."""
+    return max(sum(rows[order[at]][to] for at in range(len(rows)) for to in order[at + 1:])
+               for order in itertools.permutations(range(len(rows))))
+
+
 def in_place(rows):
     return sum(row[at] for at, row in enumerate(rows))
 

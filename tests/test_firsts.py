@@ -8,7 +8,7 @@ from swapkinds.firsts import good_swaps, good_times, is_good
 from swapkinds.orders import least_swaps
 from swapkinds.yards import Yard
 from tests.samples import MOST, NO_MOVES, Raising, hall, rings_by_places, rows_of_rings, values_of_all_kinds
-from tests.searches import KINDS, SWAPS, TURNS, drawn_yards, great_yards, laid_out, moves_of, needed
+from tests.searches import KINDS, SWAPS, TURNS, drawn_yards, great_yards, laid_out, moves_of, needed, swaps_of_rows
 
 
 def both_ways(swap):
@@ -32,12 +32,6 @@ def table_behind(yard, swap, times):
         rows[at][goes] -= times
         rows[at][comes] += times
     return rows, min(map(min, rows)) >= 0
-
-
-def swaps_needed_by_orders(rows):
-    """The most cases of steps forward in an order."""
-    return max(sum(rows[order[at]][to] for at in range(len(rows)) for to in order[at + 1:])
-               for order in itertools.permutations(range(len(rows))))
 
 
 class Searched(Raising):
@@ -131,9 +125,9 @@ class Great(Raising):
         for fewer in {times, times // 2, min(times, 1)}:
             rows, can = table_behind(yard, move, fewer)
             self.assertTrue(can)
-            self.assertEqual(swaps_needed_by_orders(rows), before - fewer)
+            self.assertEqual(swaps_of_rows(rows), before - fewer)
         rows, can = table_behind(yard, move, times + 1)
-        self.assertFalse(can and swaps_needed_by_orders(rows) == before - times - 1, (yard.rows, move, times))
+        self.assertFalse(can and swaps_of_rows(rows) == before - times - 1, (yard.rows, move, times))
 
     def test_numbers_told(self):
         # each swap ends a ring of two, or makes one of a ring of three; the last one would undo a ring of two

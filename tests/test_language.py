@@ -6,7 +6,7 @@ import os
 import unittest
 
 import swapkinds
-from swapkinds import errors, firsts, orders, plans, rings, turns, yards
+from swapkinds import errors, firsts, growing, knowing, mends, orders, plans, rings, turns, works, yards
 
 # the functions that the interface lists, with their parameters
 FUNCTIONS = {
@@ -15,7 +15,23 @@ FUNCTIONS = {
     plans: {"swap_plan": ["yard"], "plan_length": ["plan"], "most_in_place": ["yard", "number"],
             "swaps_for": ["yard", "number"]},
     turns: {"most_threes": ["yard"], "least_moves": ["yard"], "move_plan": ["yard"], "least_bar": ["yard"]},
-    firsts: {"is_good": ["yard", "move"], "good_times": ["yard", "move"], "good_swaps": ["yard"]}}
+    firsts: {"is_good": ["yard", "move"], "good_times": ["yard", "move"], "good_swaps": ["yard"]},
+    growing: {"last_step": ["yard", "growth"], "pieces": ["yard", "growth"],
+              "steps_within": ["yard", "growth", "number"], "overtakes": ["one", "growth", "other", "second"]},
+    knowing: {"possible": ["facts"], "fits": ["facts", "yard"], "some_rows": ["facts"],
+              "case_range": ["facts", "place", "thing"], "out_range": ["facts"], "most_swaps": ["facts"]},
+    mends: {"kept": ["yard", "wish"], "mends": ["yard", "wishes", "changes"]}}
+# the classes that it lists, with the parameters they are made with, of their methods, and their properties
+CLASSES = {
+    yards.Yard: (["kinds", "rows"], {
+        "cases": ["place", "thing"], "out": [], "size": [], "made": ["move", "times"], "behind": ["plan"],
+        "changed": ["changes"], "__eq__": ["other"], "__len__": [], "__str__": [], "__repr__": [],
+        "__add__": ["other"]},
+        ["kinds", "rows"]),
+    knowing.Facts: (["kinds", "lines"], {"bounds": ["place", "thing"], "__eq__": ["other"], "__len__": [],
+                                         "__repr__": []}, ["kinds", "lines"]),
+    works.Work: (["yard"], {"make": ["move", "times"], "undo": [], "trial": [], "tried": ["action"], "__len__": []},
+                 ["first", "yard", "plan", "left", "wasted"])}
 FOLDER = os.path.dirname(swapkinds.__file__)
 BUILTINS = set("""len range enumerate zip min max sum abs sorted reversed int str bool bytes list tuple dict set
     isinstance ord repr any all divmod classmethod staticmethod property super NotImplemented Exception ValueError
@@ -113,29 +129,59 @@ class Rules(unittest.TestCase):
                     self.assertIn(node.func.attr, own | METHODS, (name, node.lineno))
 
 
+    def test_properties(self):
+        """No attribute that is assigned has the name of a property or a method of any class."""
+        defined, assigned = set(), set()
+        for _, tree in trees():
+            for node in ast.walk(tree):
+                if isinstance(node, ast.ClassDef):
+                    defined |= {part.name for part in node.body if isinstance(part, ast.FunctionDef)}
+                if isinstance(node, ast.Attribute) and not isinstance(node.ctx, ast.Load):
+                    assigned.add(node.attr)
+        self.assertFalse(defined & assigned)
+
+    def test_ends_of_statements(self):
+        """What `__exit__` and `shut` do: attributes are assigned attributes, nothing else is called or read."""
+        found = 0
+        for _, tree in trees():
+            for node in ast.walk(tree):
+                if isinstance(node, ast.FunctionDef) and node.name in ("__exit__", "shut"):
+                    found += 1
+                    rows = [row for part in node.body for row in (part.body if isinstance(part, ast.If) else [part])]
+                    for row in rows:
+                        if isinstance(row, ast.Expr):
+                            self.assertEqual(ast.unparse(row), "self.shut()")
+                        else:
+                            self.assertEqual((type(row), type(row.value)), (ast.Assign, ast.Attribute))
+                    tests = [ast.unparse(part.test) for part in node.body if isinstance(part, ast.If)]
+                    self.assertIn(tests, ([], ["kind is not None"]))
+        self.assertGreater(found, 1)
+
+
 class Interface(unittest.TestCase):
     def parameters(self, function, names):
         self.assertEqual(list(inspect.signature(function).parameters), names, function)
 
     def test_parameters(self):
-        self.parameters(yards.Yard, ["kinds", "rows"])
         self.parameters(yards.Yard.read, ["text"])
         for module, functions in FUNCTIONS.items():
             for name, names in functions.items():
                 self.parameters(getattr(module, name), names)
-        for function, names in [
-                (yards.Yard.cases, ["place", "thing"]), (yards.Yard.out, []), (yards.Yard.size, []),
-                (yards.Yard.made, ["move", "times"]), (yards.Yard.behind, ["plan"]), (yards.Yard.changed, ["changes"])]:
-            self.parameters(function, ["self"] + names)
+        for made, (names, methods, _) in CLASSES.items():
+            self.parameters(made, names)
+            for method, parameters in methods.items():
+                self.parameters(getattr(made, method), ["self"] + parameters)
 
     def test_defined_where_they_are_listed(self):
-        self.assertEqual(yards.Yard.__module__, "swapkinds.yards")
         for module, functions in FUNCTIONS.items():
             for name in functions:
                 self.assertEqual(getattr(module, name).__module__, module.__name__)
-        for name in ("read", "kinds", "rows", "cases", "out", "size", "made", "behind", "changed", "__eq__", "__len__",
-                     "__str__", "__repr__", "__add__"):
-            self.assertIn(name, vars(yards.Yard))
+        self.assertIn("read", vars(yards.Yard))
+        for made, (_, methods, properties) in CLASSES.items():
+            self.assertTrue(made.__module__.startswith("swapkinds."))
+            self.assertEqual(set(methods) - set(vars(made)), set())
+            for name in properties:
+                self.assertIsInstance(vars(made)[name], property)
 
     def test_nothing_but_classes_in_errors(self):
         tree = ast.parse(inspect.getsource(errors))

@@ -43,6 +43,36 @@ def bars_by_rings(count):
     return sorted(found)
 
 
+def cuts(count):
+    """For each choice of some kinds, by how many they are, the steps out of it and the steps back into it."""
+    chosen = [kinds for size in range(1, count) for kinds in itertools.combinations(range(count), size)]
+    found = []
+    for kinds in chosen:
+        others = [kind for kind in range(count) if kind not in kinds]
+        found.append((tuple(cell(count, (kind, other)) for kind in kinds for other in others),
+                      tuple(cell(count, (other, kind)) for other in others for kind in kinds)))
+    return found
+
+
+def reached(count, pairs):
+    """Whether all kinds are reached from the first one over these pairs."""
+    kinds = {0}
+    for _ in range(count):
+        kinds |= {kind for pair in pairs if kinds & set(pair) for kind in pair}
+    return len(kinds) == count
+
+
+def rises(count, rising):
+    """How much the kind behind is higher, for all heights that are told by the pairs with one of these rises."""
+    pairs = list(itertools.combinations(range(count), 2))
+    found = []
+    for heights in itertools.product(range(-count, count + 1), repeat=count):
+        row = tuple(heights[behind] - heights[ahead] for ahead, behind in pairs)
+        if min(heights) == 0 and reached(count, [pair for pair, rise in zip(pairs, row) if rise in rising]):
+            found.append((heights, row))
+    return [row for _, row in sorted(found)]
+
+
 class Tables(unittest.TestCase):
     def checked(self, table, found):
         self.assertEqual(table, {count: tuple(found(count)) for count in COUNTS})
@@ -64,6 +94,13 @@ class Tables(unittest.TestCase):
         for count in COUNTS:
             self.assertTrue(all(is_bar(count, bar) for bar in shapes.BARS[count]))
             self.assertLessEqual(set(shapes.LEAN_BARS[count]), set(shapes.BARS[count]))
+
+    def test_cuts(self):
+        self.checked(shapes.CUTS, cuts)
+
+    def test_rises(self):
+        self.checked(shapes.FORWARD_RISES, lambda count: rises(count, (0, 1)))
+        self.checked(shapes.OUT_RISES, lambda count: rises(count, (-1, 1)))
 
     def test_surplus(self):
         def surplus(count):
