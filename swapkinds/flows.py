@@ -6,8 +6,8 @@ Bounds are two lists of cells, lows and highs. Nothing lies in place, as this ch
 from swapkinds.shapes import CUTS, FORWARD, FORWARD_RISES
 from swapkinds.tables import case_sum, is_in_place
 
-# in the order in which a list of seven is indexed by a number from -3 to 3
-RISES = (0, 1, 2, 3, -3, -2, -1)
+# by how much one kind is higher than another one, at most; what is told for all rises is a list from the least one on
+MOST_RISE = 3
 
 
 def step_cells(count):
@@ -65,13 +65,13 @@ def rise_costs(count, lows, highs, ahead, behind):
     for at in step_cells(count):
         back = turned(count, at)
         costs[at] = [weighed(ahead - rise, lows[at], highs[at]) + weighed(behind + rise, lows[back], highs[back])
-                     for rise in RISES]
+                     for rise in range(-MOST_RISE, MOST_RISE + 1)]
     return costs
 
 
 def row_cost(tables, row):
     """The most that all steps can add, their lists of costs standing as the rises of the row."""
-    return sum([table[rise] for table, rise in zip(tables, row)])
+    return sum([table[index] for table, index in zip(tables, row)])
 
 
 def least_cost(costs, steps, rows):
@@ -110,11 +110,12 @@ def most_forward(count, lows, highs, enough):
     return (most, best)
 
 
-def tight_bounds(lows, highs, count, steps, row):
+def tight_bounds(count, lows, highs, steps, row):
     """The bounds of the tables that add as much as the row of rises shows for the steps forward: lows and highs."""
     tight_lows = list(lows)
     tight_highs = list(highs)
-    for step, rise in zip(steps, row):
+    for step, index in zip(steps, row):
+        rise = index - MOST_RISE
         for at, weight in ((step, 1 - rise), (turned(count, step), rise)):
             if weight > 0:
                 tight_lows[at] = highs[at]

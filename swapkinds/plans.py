@@ -12,11 +12,15 @@ def ring_swaps(ring):
     return [(ring[0], things[at - 1], ring[at], things[at]) for at in range(1, len(ring))]
 
 
+def swap_parts(rows):
+    """A plan of swaps alone, by indexes, that puts a table right with as few as can be: pairs (swap, times)."""
+    return [(swap, number) for ring, number in pairs_first_numbers(rows) for swap in ring_swaps(ring)]
+
+
 def swap_plan(yard):
     """A plan of swaps alone that puts the yard right with as few swaps as can be."""
     check_yard(yard)
-    parts = pairs_first_numbers(yard.rows)
-    return named(yard.kinds, [(swap, number) for ring, number in parts for swap in ring_swaps(ring)])
+    return named(yard.kinds, swap_parts(yard.rows))
 
 
 def is_timed(value):

@@ -68,6 +68,16 @@ def check_number(number, least):
         raise InvalidNumber(number)
 
 
+def yard_of_text(text):
+    """The yard with this text; None if it is the text of none."""
+    try:
+        yard = Yard(kinds_of_text(text), rows_of_text(text))
+    except (InvalidKinds, InvalidRows, Unbalanced):
+        return None
+    # words are read loosely; a text is the one of the yard only if it is written again to the letter
+    return yard if str(yard) == text else None
+
+
 class Yard:
     """Two to four kinds, and how many things of each kind lie at the places of each kind."""
 
@@ -83,12 +93,8 @@ class Yard:
         """The yard with this text."""
         if not isinstance(text, str):
             raise InvalidText(text)
-        try:
-            yard = cls(kinds_of_text(text), rows_of_text(text))
-        except (InvalidKinds, InvalidRows, Unbalanced):
-            raise InvalidText(text) from None
-        # words are read loosely; a text is the one of the yard only if it is written again to the letter
-        if str(yard) != text:
+        yard = yard_of_text(text)
+        if yard is None:
             raise InvalidText(text)
         return yard
 
@@ -148,7 +154,7 @@ class Yard:
         check_changes(changes, lines)
         news = {old: new for old, new in changes}
         changed_lines = [news.get(line, line) for line in lines]
-        return Yard.read("\n".join([first, *changed_lines]))
+        return self.read("\n".join([first, *changed_lines]))
 
     def __eq__(self, other):
         return isinstance(other, Yard) and self._kinds == other._kinds and self._rows == other._rows

@@ -6,7 +6,8 @@ import os
 import unittest
 
 import swapkinds
-from swapkinds import errors, firsts, growing, knowing, mends, orders, plans, rings, turns, works, yards
+from swapkinds import certificates, checker, consoles, errors, firsts, growing, knowing, libraries, mends, orders, plans
+from swapkinds import rings, turns, works, yards
 
 # the functions that the interface lists, with their parameters
 FUNCTIONS = {
@@ -20,7 +21,10 @@ FUNCTIONS = {
               "steps_within": ["yard", "growth", "number"], "overtakes": ["one", "growth", "other", "second"]},
     knowing: {"possible": ["facts"], "fits": ["facts", "yard"], "some_rows": ["facts"],
               "case_range": ["facts", "place", "thing"], "out_range": ["facts"], "most_swaps": ["facts"]},
-    mends: {"kept": ["yard", "wish"], "mends": ["yard", "wishes", "changes"]}}
+    mends: {"kept": ["yard", "wish"], "mends": ["yard", "wishes", "changes"]},
+    checker: {"accepts": ["claim", "certificate"]},
+    certificates: {"certify_swaps": ["yard"], "certify_moves": ["yard"], "certify_good": ["yard", "move"],
+                   "certify_within": ["facts"], "certify_needs": ["facts", "number"]}}
 # the classes that it lists, with the parameters they are made with, of their methods, and their properties
 CLASSES = {
     yards.Yard: (["kinds", "rows"], {
@@ -31,7 +35,11 @@ CLASSES = {
     knowing.Facts: (["kinds", "lines"], {"bounds": ["place", "thing"], "__eq__": ["other"], "__len__": [],
                                          "__repr__": []}, ["kinds", "lines"]),
     works.Work: (["yard"], {"make": ["move", "times"], "undo": [], "trial": [], "tried": ["action"], "__len__": []},
-                 ["first", "yard", "plan", "left", "wasted"])}
+                 ["first", "yard", "plan", "left", "wasted"]),
+    consoles.Console: ([], {"do": ["line"]}, ["names"]),
+    libraries.Library: ([], {"remove": ["name"], "wish": ["name", "wish"], "lift": ["index"], "undo": [], "trial": [],
+                             "tried": ["action"], "__contains__": ["x"], "__getitem__": ["at"],
+                             "__setitem__": ["at", "worth"], "__len__": []}, ["names", "wishes", "changes"])}
 FOLDER = os.path.dirname(swapkinds.__file__)
 BUILTINS = set("""len range enumerate zip min max sum abs sorted reversed int str bool bytes list tuple dict set
     isinstance ord repr any all divmod classmethod staticmethod property super NotImplemented Exception ValueError
@@ -120,6 +128,77 @@ class Rules(unittest.TestCase):
             for node in ast.walk(tree):
                 if isinstance(node, ast.Name) and isinstance(node.ctx, ast.Load):
                     self.assertIn(node.id, bound | BUILTINS, (name, node.lineno))
+
+    def test_names_of_imports(self):
+        """No parameter, local variable or nested function has the name of an import or a class of its file."""
+        for name, tree in trees():
+            above = {part.name for node in tree.body if isinstance(node, ast.ImportFrom) for part in node.names}
+            above |= {node.name for node in tree.body if isinstance(node, ast.ClassDef)}
+            for function in ast.walk(tree):
+                if isinstance(function, ast.FunctionDef):
+                    local = {node.arg for node in ast.walk(function) if isinstance(node, ast.arg)}
+                    local |= {node.id for node in ast.walk(function)
+                              if isinstance(node, ast.Name) and not isinstance(node.ctx, ast.Load)}
+                    self.assertFalse(local & above, (name, function.name))
+
+    def test_module_level_values(self):
+        """Values at module level are literal; a list or a dict stands in no other value."""
+        for name, tree in trees():
+            for node in tree.body:
+                if isinstance(node, ast.Assign):
+                    parts = list(ast.walk(node.value))
+                    self.assertFalse([part for part in parts if isinstance(part, (ast.Call, ast.comprehension))], name)
+                    self.assertFalse([part for part in parts[1:] if isinstance(part, (ast.List, ast.Dict, ast.Set))],
+                                     name)
+                    signs = [part for part in parts if isinstance(part, (ast.UnaryOp, ast.BinOp))]
+                    self.assertLess(len(signs), 100, name)
+
+    def test_no_two_files_import_one_another(self):
+        needed = {name[:-3]: {node.module.split(".")[1] for node in tree.body if isinstance(node, ast.ImportFrom)}
+                  for name, tree in trees()}
+        while needed:
+            free = [name for name, others in needed.items() if not others & set(needed)]
+            self.assertTrue(free, needed)
+            needed = {name: others for name, others in needed.items() if name not in free}
+
+    def test_no_method_is_read_off_a_class(self):
+        classes = {node.name for _, tree in trees() for node in tree.body if isinstance(node, ast.ClassDef)}
+        for name, tree in trees():
+            for node in ast.walk(tree):
+                if isinstance(node, ast.Attribute) and isinstance(node.value, ast.Name):
+                    self.assertNotIn(node.value.id, classes, (name, node.lineno))
+
+    def test_stars_in_calls(self):
+        """Behind a star in a call stands a name; no call has two stars."""
+        for name, tree in trees():
+            for node in ast.walk(tree):
+                if isinstance(node, ast.Call):
+                    for part in node.args:
+                        if isinstance(part, ast.Starred):
+                            self.assertIsInstance(part.value, ast.Name, (name, node.lineno))
+                    self.assertTrue(all(part.arg for part in node.keywords), (name, node.lineno))
+
+    def test_what_is_iterated_is_not_changed(self):
+        """No name that a loop goes over is assigned an item, or appended to, within it."""
+        for name, tree in trees():
+            for loop in ast.walk(tree):
+                if isinstance(loop, ast.For):
+                    over = {ast.unparse(node) for node in ast.walk(loop.iter)
+                            if isinstance(node, (ast.Name, ast.Attribute))}
+                    changed = {ast.unparse(node.value) for part in loop.body for node in ast.walk(part)
+                               if isinstance(node, ast.Subscript) and not isinstance(node.ctx, ast.Load)}
+                    changed |= {ast.unparse(node.func.value) for part in loop.body for node in ast.walk(part)
+                                if isinstance(node, ast.Call) and isinstance(node.func, ast.Attribute)
+                                and node.func.attr in ("append", "extend", "pop", "insert", "remove", "clear")}
+                    self.assertFalse(over & changed, (name, loop.lineno))
+
+    def test_words_that_do_not_occur(self):
+        for name in files():
+            for word in ("(type)", "Meta", "metaclass=", "_wall", "dataclass", "contextmanager", "overload"):
+                self.assertNotIn(word, source(name), name)
+            strings = [node.value for node in ast.walk(ast.parse(source(name)))
+                       if isinstance(node, ast.Constant) and isinstance(node.value, str)]
+            self.assertFalse([value for value in strings if value.endswith("._") or value.startswith("__")])
 
     def test_methods(self):
         own = {node.name for _, tree in trees() for node in ast.walk(tree) if isinstance(node, ast.FunctionDef)}

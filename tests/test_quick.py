@@ -5,10 +5,14 @@ import random
 import sys
 import unittest
 
+from swapkinds.certificates import certify_good, certify_moves, certify_needs, certify_swaps, certify_within
+from swapkinds.checker import accepts
+from swapkinds.consoles import Console
 from swapkinds.errors import NotPossible
 from swapkinds.firsts import good_swaps, good_times, is_good
 from swapkinds.growing import last_step, overtakes, pieces, steps_within
 from swapkinds.knowing import Facts, case_range, most_swaps, out_range, possible, some_rows
+from swapkinds.libraries import Library
 from swapkinds.mends import kept, mends
 from swapkinds.orders import best_orders, least_swaps
 from swapkinds.plans import most_in_place, swap_plan, swaps_for
@@ -109,6 +113,29 @@ class Later(Counting):
 
         self.most(70000, ten_moves)
 
+    def test_consoles_and_libraries(self):
+        def answered(yard):
+            console = Console()
+            console.do("yard h " + str(yard).replace("\n", "; "))
+            for word in ("out h", "swaps h", "moves h", "rings h", "order h", "behind h 5", "swap h a b b a", "undo"):
+                console.do(word)
+
+        def held(yard):
+            library = Library()
+            for word in ("swaps", "moves", "out"):
+                library["all"] = yard
+                library.wish("all", (word, 10 ** 32))
+            library.undo()
+
+        self.most(40000, answered)
+        self.most(40000, held)
+
+    def test_certificates(self):
+        for call in (certify_swaps, certify_moves):
+            self.most(40000, call)
+            self.most(80000, lambda yard: accepts(*call(yard)))
+        self.most(40000, lambda yard: certify_good(yard, (*yard.kinds[:2], *yard.kinds[1::-1])))
+
     def test_facts(self):
         draw = random.Random(52)
         steps = list(itertools.permutations(KINDS, 2))
@@ -119,7 +146,8 @@ class Later(Counting):
             facts = Facts(KINDS, tuple(lines))
             if possible(facts):
                 for limit, call in ((3000, possible), (15000, some_rows), (35000, out_range), (150000, most_swaps),
-                                    (6000, lambda known: case_range(known, "d", "b"))):
+                                    (6000, lambda known: case_range(known, "d", "b")), (250000, certify_within),
+                                    (250000, lambda known: certify_needs(known, 5))):
                     self.assertLess(instructions(call, facts), limit, (call, facts.lines))
 
 

@@ -69,7 +69,7 @@ def rises(count, rising):
     for heights in itertools.product(range(-count, count + 1), repeat=count):
         row = tuple(heights[behind] - heights[ahead] for ahead, behind in pairs)
         if min(heights) == 0 and reached(count, [pair for pair, rise in zip(pairs, row) if rise in rising]):
-            found.append((heights, row))
+            found.append((heights, tuple(rise + 3 for rise in row)))
     return [row for _, row in sorted(found)]
 
 
