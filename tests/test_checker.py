@@ -40,6 +40,22 @@ def plan_is_right(kinds, rows, plan, number, sizes):
         and sum(times for _, times in plan) == number and all(len(move) in sizes for move, _ in plan)
 
 
+def with_value(value, part):
+    """The value with another part in the place of each of its own, at each depth."""
+    yield part
+    if isinstance(value, tuple):
+        for at, own in enumerate(value):
+            for other in with_value(own, part):
+                yield value[:at] + (other,) + value[at + 1:]
+
+
+def renamed(value, names):
+    """A value with other words in the place of its words and of those of its texts."""
+    if isinstance(value, str):
+        return "\n".join([" ".join([names.get(word, word) for word in line.split(" ")]) for line in value.split("\n")])
+    return tuple([renamed(part, names) for part in value]) if isinstance(value, tuple) else value
+
+
 class Checking(unittest.TestCase):
     def accepted(self, pair):
         self.assertIs(accepts(*pair), True, pair)
@@ -125,6 +141,14 @@ class ByHand(Checking):
         self.refused(("swaps", text, 1), (("a", "b", "c"), turn))
         self.refused(("swaps", text, 1), (("c", "b", "a"), turn))
         self.refused(("good", text, turn[0][0], 1), ((("a", "b", "c"), turn), (("a", "b", "c"), ())))
+
+    def test_what_is_no_move_though_it_would_do(self):
+        self.accepted(PAIR_MOVES)
+        for move in (("x", "y", "y", "x", "x", "y"), ("x", "y", "x", "y", "y", "x"), ("x", "y", "y", "x", "y", "x"),
+                     ("x", "y", "y", "x", "y", "x", "x", "y"), ("x", "y", "y", "x", "x")):
+            self.refused(("moves", PAIR, 3), ((), ((move, 3),)))
+            self.refused(("swaps", PAIR, 3), (("x", "y"), ((move, 3),)))
+            self.refused(("good", PAIR, move, 2), PAIR_GOOD[1])
 
     def test_bars(self):
         turn = ((("a", "b", "b", "c", "c", "a"), 2),)
@@ -311,12 +335,75 @@ class Otherwise(Checking):
             self.refused(("needs", kinds) + claim[2:], NEEDS[1])
 
 
+    def test_all_kinds_renamed(self):
+        """Claims and certificates that are right but for the names of their kinds."""
+        for claim, certificate in BY_HAND:
+            kinds = claim[1] if isinstance(claim[1], tuple) else tuple(claim[1].split("\n")[0].split(" ")[1:])
+            for names in (("z" * 8, "b", "c"), ("z1", "a0000000", "zz"), ("is", "from", "kinds"), ("b", "a", "c")):
+                told = dict(zip(kinds, names))
+                one, other = renamed(claim[1:], told), renamed(certificate, told)
+                self.assertIs(accepts((claim[0],) + one, other), True, one)
+            for bad in ("z" * 9, "Z", "1", "z-", "z_", "", "zZ", "1z", "_", "z\t"):
+                for kind in kinds:
+                    told = {kind: bad}
+                    self.refused((claim[0],) + renamed(claim[1:], told), renamed(certificate, told))
+            # two kinds with one name
+            told = {kinds[1]: kinds[0]}
+            self.refused((claim[0],) + renamed(claim[1:], told), renamed(certificate, told))
+
+    def test_one_kind_and_five_kinds(self):
+        five = "kinds a b c d e\n" + "\n".join(kind + " 0" * 5 for kind in "abcde")
+        for text, order in (("kinds a\na 3", ("a",)), (five, tuple("abcde")), ("kinds", ())):
+            self.refused(("swaps", text, 0), (order, ()))
+            self.refused(("moves", text, 0), ((), ()))
+            self.refused(("needs", order, ("a b most 1",), 0), (text, order))
+            orders = tuple((other, (0,) * len(order)) for other in itertools.permutations(order))
+            calm = tuple(f"{place} {thing} is 0" for place, thing in itertools.permutations(order, 2))[:12]
+            self.refused(("within", order, calm or ("a b most 1",), 99), orders)
+        bar = tuple(itertools.permutations("abcde", 2))
+        self.refused(("moves", five, 0), (bar, ()))
+
+    def test_texts_that_are_not_balanced(self):
+        lines = ("a b most 9",)
+        self.accepted((("needs", ("a", "b", "c"), lines, 3),
+                       ("kinds a b c\na 0 2 1\nb 2 0 0\nc 1 0 0", ("a", "b", "c"))))
+        for text in ("kinds a b c\na 0 2 1\nb 2 0 0\nc 0 1 0", "kinds a b c\na 0 2 1\nb 2 0 0\nc 0 0 0",
+                     "kinds a b c\na 0 2 0\nb 2 0 3\nc 0 0 7", "kinds a b c\na 0 3 0\nb 2 0 0\nc 0 0 0"):
+            self.refused(("needs", ("a", "b", "c"), lines, 1), (text, ("a", "b", "c")))
+
+    def test_turns_that_are_as_good_as_swaps(self):
+        found = 0
+        for sums in ((2, 2, 2), (1, 2, 3)):
+            for rows in sorted(needed(sums, (SWAPS,)))[::5]:
+                yard = Yard(("x", "y", "z"), rows)
+                for turn in moves_of(3, TURNS):
+                    turn = tuple(yard.kinds[at] for at in turn)
+                    behind = rows_after(yard, ((turn, 1),))
+                    if behind and swaps_of_rows(behind) == least_swaps(yard) - 1:
+                        found += 1
+                        other = Yard(yard.kinds, behind)
+                        self.refused(("good", str(yard), turn, 1), ((best_orders(yard)[0], swap_plan(yard)),
+                                                                     (best_orders(other)[0], swap_plan(other))))
+        self.assertGreater(found, 10)
+
+    def test_one_thing_is_enough_where_one_like_it_comes(self):
+        turn, swap = ("a", "b", "c", "b", "b", "a"), ("b", "c", "c", "b")
+        for text, told in (("kinds a b c\na 0 3 0\nb 3 0 1\nc 0 1 0", True),
+                           ("kinds a b c\na 0 3 0\nb 3 0 0\nc 0 0 1", False)):
+            yard = Yard.read(text)
+            plan = ((turn, 3),) + ((swap, 1),) * told
+            self.assertEqual(rows_after(yard, plan) is not None, told)
+            certificate = (least_bar(yard), plan)
+            self.assertIs(accepts(("moves", text, least_moves(yard)), certificate), told)
+
+
 class AnyValue(Checking):
     def values(self):
         return values_of_all_kinds() + [
             *(part for pair in BY_HAND for part in pair), *BY_HAND, (("swaps",),), ("swaps",), ("swaps", None, 3),
             ("good",),
-            ("within", ("a", "b")), ("needs", None, None, 0), (None, PAIR, 3), (Agreeing(), PAIR, 3),
+            ("within", 4), ("needs", 4), ("swaps", 3), ("good", 3), (3,), ("within", ("a", "b")),
+            ("needs", None, None, 0), (None, PAIR, 3), (Agreeing(), PAIR, 3),
             (Refusing(), PAIR, 3),
             ("swaps", PAIR, 3, 3), ("moves", PAIR, 3, 3), ("good", PAIR, 1), ("within", ("a", "b"), 4),
             ("good", PAIR, None, 1),
@@ -349,6 +436,18 @@ class AnyValue(Checking):
                     # the empty tuple is the bar of two kinds
                     if not same(other, certificate):
                         self.refused(claim, other)
+
+    def test_at_any_depth(self):
+        """Any value in the place of any part, at any depth, raises nothing; what has another form is not accepted."""
+        for claim, certificate in BY_HAND:
+            for value in values_of_all_kinds():
+                for other in with_value(certificate, value):
+                    told = accepts(claim, other)
+                    self.assertIs(type(told), bool)
+                    # () may be a bar or a plan, -1 a height or a number
+                    self.assertFalse(told and not isinstance(value, (tuple, int)) or told and isinstance(value, bool))
+                for other in with_value(claim, value):
+                    self.assertIs(accepts(other, certificate), claim[0] == "needs" and same(other, claim[:-1] + (-1,)))
 
     def test_bool_in_the_place_of_1(self):
         text = "kinds x y\nx 0 1\ny 1 0"

@@ -19,7 +19,7 @@ SEEN = Facts(("a", "b", "c"), ("a b from 2 to 5", "b c most 3", "c b is 0", "a c
 NO_FACTS = values_of_all_kinds() + ["a b is 1", ("a b is 1",), (SEEN,), hall(), 5]
 # no facts about a, b and c
 WRONG_LINES = values_of_all_kinds() + [
-    "a b", "a b is", "a b is ", "a b is 1 ", " a b is 1", "a  b is 1", "a b  is 1", "a b is  1", "a b is 01",
+    "a", "b", "a ", " a", "a b", "a b is", "a b is ", "a b is 1 ", " a b is 1", "a  b is 1", "a b  is 1", "a b is  1", "a b is 01",
     "a b is 00", "a b is -1", "a b is +1", "a b is 1.0", "a b is x", "a b is 1\n", "a b is 1\n2", "a b\nis 1",
     "a b Is 1", "a b IS 1", "A b is 1", "a a is 1", "a d is 1", "d a is 1", "b is 1", "a b c is 1", "a b is 1 2",
     "a b is 1 to 2", "a b was 1", "a b 1", "a is 1", "a b least", "a b most", "a b least -1", "a b least 1 2",

@@ -147,6 +147,15 @@ class Partings(unittest.TestCase):
         self.assertIs(is_parting(yard, ((("d", "b"), 2),)), True)
         self.assertIs(is_parting(yard, ((("d", "b", "d", "b"), 1),)), False)
 
+    def test_rings_of_one_kind_and_no_rings(self):
+        for first, yard in ((pairs_first(hall()), hall()), ((), Yard(("a", "b"), ((3, 0), (0, 5))))):
+            self.assertIs(is_parting(yard, first), True)
+            self.assertIs(is_parting(yard, ((("a",), 1),) + first), False)
+            self.assertIs(is_parting(yard, (((), 1),) + first), False)
+        yard = Yard(("a", "b", "c"), rows_of_rings(3, [((0, 1), 2), ((0, 1, 2), 1)]))
+        self.assertIs(is_parting(yard, ((("a", "b"), 2), (("a", "b", "c"), 1))), True)
+        self.assertIs(is_parting(yard, ((("a", "b"), 2), (("a", "c"), 0), (("a", "b", "c"), 1))), False)
+
     def test_true_is_no_number(self):
         yard = Yard(("a", "b"), ((0, 1), (1, 0)))
         self.assertIs(is_parting(yard, ((("a", "b"), 1),)), True)
