@@ -29,9 +29,8 @@ class Trial:
 
     # goes back to the statement around this one
     def shut(self):
-        outer = self._outer
-        self._begun = outer.begun
-        self._outer = outer.outer
+        self._begun = self._outer.begun
+        self._outer = self._outer.outer
 
 
 class Guard(Trial):

@@ -74,6 +74,11 @@ def names_bound(tree):
     return bound | {name.name for node in ast.walk(tree) if isinstance(node, ast.ImportFrom) for name in node.names}
 
 
+def function_of(name, rows):
+    """The tree of a method with these rows, which stand on one line."""
+    return ast.parse(f"def {name}(self, kind, value, trace):\n    " + rows.replace("; ", "\n    ")).body[0]
+
+
 class Rules(unittest.TestCase):
     def test_files(self):
         for name in files():
@@ -219,22 +224,52 @@ class Rules(unittest.TestCase):
                     assigned.add(node.attr)
         self.assertFalse(defined & assigned)
 
+    def ending_row(self, row, at_once):
+        """A row of `__exit__`, or of the method it calls; the name that it gives a value to, or None."""
+        if isinstance(row, ast.Expr):
+            self.assertEqual((ast.unparse(row), at_once), ("self.shut()", True))
+            return None
+        self.assertIsInstance(row, ast.Assign)
+        self.assertEqual((type(row.value), len(row.targets)), (ast.Attribute, 1))
+        self.assertRegex(ast.unparse(row.value), r"^self(\.\w+)+$")
+        if isinstance(row.targets[0], ast.Name):
+            # a local variable stands for an attribute of the trial itself, not for one further off
+            self.assertRegex(ast.unparse(row.value), r"^self\.\w+$")
+            return row.targets[0].id
+        self.assertIsInstance(row.targets[0], ast.Attribute)
+        return None
+
+    def ending(self, function):
+        """What `__exit__` and `shut` do; `shut` has no local variable, `__exit__` has one, assigned once."""
+        at_once, named = function.name == "__exit__", []
+        for part in function.body:
+            if isinstance(part, ast.If):
+                self.assertEqual((ast.unparse(part.test), at_once, part.orelse), ("kind is not None", True, []))
+            named += [self.ending_row(row, at_once) for row in (part.body if isinstance(part, ast.If) else [part])]
+        self.assertLessEqual(len([name for name in named if name]), 1 if at_once else 0, function.name)
+
     def test_ends_of_statements(self):
-        """What `__exit__` and `shut` do: attributes are assigned attributes, nothing else is called or read."""
+        """Attributes are assigned attributes, nothing else is called or read."""
         found = 0
         for _, tree in trees():
             for node in ast.walk(tree):
                 if isinstance(node, ast.FunctionDef) and node.name in ("__exit__", "shut"):
                     found += 1
-                    rows = [row for part in node.body for row in (part.body if isinstance(part, ast.If) else [part])]
-                    for row in rows:
-                        if isinstance(row, ast.Expr):
-                            self.assertEqual(ast.unparse(row), "self.shut()")
-                        else:
-                            self.assertEqual((type(row), type(row.value)), (ast.Assign, ast.Attribute))
-                    tests = [ast.unparse(part.test) for part in node.body if isinstance(part, ast.If)]
-                    self.assertIn(tests, ([], ["kind is not None"]))
-        self.assertGreater(found, 1)
+                    self.ending(node)
+        self.assertGreater(found, 2)
+
+    def test_ends_that_break_the_rule(self):
+        kept = [("__exit__", "held = self.a; held.b = self.c; self.shut()"), ("__exit__", "self.a = self.b.c"),
+                ("__exit__", "if kind is not None: self.a = self.b"), ("shut", "self.a = self.b.c; self.b = self.b.d")]
+        broken = [("__exit__", rows) for rows in (
+            "a = self.a; b = self.b", "a = self.a.b", "if value is None: self.a = self.b", "self.go()",
+            "self.a = self.b = self.c", "self.a[0] = self.b", "self.a = self.b.c()", "return self.a")]
+        broken += [("shut", "b = self.b; self.a = b.c"), ("shut", "b = self.b"), ("shut", "self.shut()")]
+        for name, rows in kept:
+            self.ending(function_of(name, rows))
+        for name, rows in broken:
+            with self.assertRaises(AssertionError, msg=rows):
+                self.ending(function_of(name, rows))
 
 
 class Interface(unittest.TestCase):
